@@ -7,15 +7,20 @@ import (
 	"testing"
 )
 
-// namesIn counts the names that a layer's file uses.
-func namesIn(t *testing.T, layer string) map[string]int {
+func parsed(t *testing.T, layer string) *ast.File {
 	t.Helper()
 	f, err := parser.ParseFile(token.NewFileSet(), "../impl/"+layer, nil, parser.SkipObjectResolution)
 	if err != nil {
 		t.Fatal(err)
 	}
+	return f
+}
+
+// namesIn counts the names that a layer's file uses.
+func namesIn(t *testing.T, layer string) map[string]int {
+	t.Helper()
 	names := map[string]int{}
-	ast.Inspect(f, func(n ast.Node) bool {
+	ast.Inspect(parsed(t, layer), func(n ast.Node) bool {
 		if id, ok := n.(*ast.Ident); ok {
 			names[id.Name]++
 		}
@@ -30,5 +35,25 @@ func TestWaysOfValues(t *testing.T) {
 		if names[want] == 0 {
 			t.Error("values are built without", want)
 		}
+	}
+}
+
+// labelledSteps counts the steps of that kind (break, continue, goto) that
+// name a label.
+func labelledSteps(t *testing.T, layer string, step token.Token) int {
+	t.Helper()
+	count := 0
+	ast.Inspect(parsed(t, layer), func(n ast.Node) bool {
+		if b, ok := n.(*ast.BranchStmt); ok && b.Tok == step && b.Label != nil {
+			count++
+		}
+		return true
+	})
+	return count
+}
+
+func TestWaysOfThings(t *testing.T) {
+	if labelledSteps(t, "l02_ents.go", token.CONTINUE) == 0 {
+		t.Error("no labelled loop is gone on with")
 	}
 }
