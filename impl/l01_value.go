@@ -65,7 +65,7 @@ func ValOk(v Val) bool {
 }
 
 func ValZero(kind int) Val {
-	if kind < KInt || kind > KBool {
+	if !isKind(kind) {
 		return Val{}
 	}
 	return Val{Kind: kind}
@@ -144,6 +144,8 @@ func boolVal(yes bool) Val {
 }
 
 func pairOf(v Val) complex128 { return complex(v.X, v.Y) }
+
+func isKind(kind int) bool { return kind >= KInt && kind <= KBool }
 
 // plusZero looks at the bits, for == takes -0 for 0.
 func plusZero(x float64) bool { return math.Float64bits(x) == 0 }

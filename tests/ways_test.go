@@ -57,3 +57,42 @@ func TestWaysOfThings(t *testing.T) {
 		t.Error("no labelled loop is gone on with")
 	}
 }
+
+// embedsIn counts the fields without a name of their own.
+func embedsIn(t *testing.T, layer string) int {
+	t.Helper()
+	count := 0
+	ast.Inspect(parsed(t, layer), func(n ast.Node) bool {
+		if s, ok := n.(*ast.StructType); ok {
+			for _, field := range s.Fields.List {
+				if len(field.Names) == 0 {
+					count++
+				}
+			}
+		}
+		return true
+	})
+	return count
+}
+
+// mapsIn counts the map types.
+func mapsIn(t *testing.T, layer string) int {
+	t.Helper()
+	count := 0
+	ast.Inspect(parsed(t, layer), func(n ast.Node) bool {
+		if _, ok := n.(*ast.MapType); ok {
+			count++
+		}
+		return true
+	})
+	return count
+}
+
+func TestWaysOfNames(t *testing.T) {
+	if mapsIn(t, "l03_names.go") == 0 {
+		t.Error("words stand in no map")
+	}
+	if embedsIn(t, "l03_names.go") == 0 {
+		t.Error("declarations embed nothing")
+	}
+}
