@@ -96,3 +96,22 @@ func TestWaysOfNames(t *testing.T) {
 		t.Error("declarations embed nothing")
 	}
 }
+
+func TestWaysOfTheWorld(t *testing.T) {
+	generic := 0
+	ast.Inspect(parsed(t, "l04_world.go"), func(n ast.Node) bool {
+		if s, ok := n.(*ast.TypeSpec); ok && s.TypeParams != nil {
+			generic++
+		}
+		return true
+	})
+	if generic == 0 {
+		t.Error("tables are kept by no generic type")
+	}
+	if mapsIn(t, "l04_world.go") == 0 {
+		t.Error("rows are found in no map")
+	}
+	if namesIn(t, "l04_world.go")["copy"] == 0 {
+		t.Error("rows are not moved by copy")
+	}
+}
