@@ -29,6 +29,8 @@ func sameEnt(a, b impl.Ent) bool { return a == b }
 
 func sameCell(a, b impl.Cell) bool { return a.Comp == b.Comp && same(a.Val, b.Val) }
 
+func sameDecl(a, b impl.Decl) bool { return a == b }
+
 func sameTableMemory(a, b impl.Table) bool {
 	return sameMemory(a.Cols, b.Cols) && sameMemory(a.Rows, b.Rows) && sameMemory(a.Cells, b.Cells)
 }
@@ -55,6 +57,14 @@ func (g *guards) roomyWorld(w impl.World) impl.World {
 	spare := impl.Table{Rows: []impl.Ent{ent(1, 0)}}
 	q.Tables = guardIn(g, tables, spare, sameTableMemory)
 	return q
+}
+
+func (g *guards) roomyReg(r impl.Reg) impl.Reg {
+	return impl.Reg{
+		Comps: guardIn(g, r.Comps, decl("spare", impl.KInt), sameDecl),
+		Ress:  guardIn(g, r.Ress, decl("extra", impl.KInt), sameDecl),
+		Evts:  guardIn(g, r.Evts, decl("other", impl.KInt), sameDecl),
+	}
 }
 
 func (g *guards) kept() bool {
@@ -157,10 +167,7 @@ func changesOf(c regWorld) []change {
 func TestChangesLeaveTheArgumentAlone(t *testing.T) {
 	for _, c := range memoryWorlds() {
 		var g guards
-		r := cloneReg(c.r)
-		r.Comps = guardIn(&g, r.Comps, decl("spare", 1), func(a, b impl.Decl) bool { return a == b })
-		r.Ress = guardIn(&g, r.Ress, decl("extra", 1), func(a, b impl.Decl) bool { return a == b })
-		w := g.roomyWorld(c.w)
+		r, w := g.roomyReg(c.r), g.roomyWorld(c.w)
 		s := &stamps{}
 		s.world(impl.NewWorld(r))
 		for _, change := range changesOf(c) {

@@ -115,3 +115,51 @@ func TestWaysOfTheWorld(t *testing.T) {
 		t.Error("rows are not moved by copy")
 	}
 }
+
+// methodValuesIn counts the methods of a layer that are taken as values, not
+// called on the spot.
+func methodValuesIn(t *testing.T, layer string) int {
+	t.Helper()
+	methods, called := map[string]bool{}, map[ast.Expr]bool{}
+	file := parsed(t, layer)
+	for _, d := range file.Decls {
+		if f, ok := d.(*ast.FuncDecl); ok && f.Recv != nil {
+			methods[f.Name.Name] = true
+		}
+	}
+	count := 0
+	ast.Inspect(file, func(n ast.Node) bool {
+		switch n := n.(type) {
+		case *ast.CallExpr:
+			called[n.Fun] = true
+		case *ast.SelectorExpr:
+			if methods[n.Sel.Name] && !called[n] {
+				count++
+			}
+		}
+		return true
+	})
+	return count
+}
+
+func TestWaysOfCommandBuffers(t *testing.T) {
+	interfaces, switches := 0, 0
+	ast.Inspect(parsed(t, "l05_cmds.go"), func(n ast.Node) bool {
+		switch n := n.(type) {
+		case *ast.InterfaceType:
+			interfaces += len(n.Methods.List)
+		case *ast.TypeSwitchStmt:
+			switches++
+		}
+		return true
+	})
+	if interfaces == 0 {
+		t.Error("commands stand behind no interface")
+	}
+	if switches == 0 {
+		t.Error("commands are told apart by no type switch")
+	}
+	if methodValuesIn(t, "l05_cmds.go") == 0 {
+		t.Error("commands are done by no method value")
+	}
+}
