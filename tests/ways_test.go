@@ -163,3 +163,71 @@ func TestWaysOfCommandBuffers(t *testing.T) {
 		t.Error("commands are done by no method value")
 	}
 }
+
+// An iterator stands in a function that answers one of iter's types; a range
+// over a call of such a function is a range over a function.
+func TestWaysOfEvents(t *testing.T) {
+	file := parsed(t, "l06_events.go")
+	iterators := map[string]bool{}
+	for _, d := range file.Decls {
+		if f, ok := d.(*ast.FuncDecl); ok && f.Type.Results != nil {
+			for _, result := range f.Type.Results.List {
+				iterators[f.Name.Name] = iterators[f.Name.Name] || isIterator(result.Type)
+			}
+		}
+	}
+	ranges, early := 0, 0
+	ast.Inspect(file, func(n ast.Node) bool {
+		r, ok := n.(*ast.RangeStmt)
+		if !ok {
+			return true
+		}
+		call, ok := r.X.(*ast.CallExpr)
+		if !ok {
+			return true
+		}
+		if name, ok := call.Fun.(*ast.Ident); ok && iterators[name.Name] {
+			ranges++
+			early += leavesIn(r.Body)
+		}
+		return true
+	})
+	if ranges == 0 {
+		t.Error("what is unread is told by no iterator")
+	}
+	if early == 0 {
+		t.Error("no reader leaves the iterator early")
+	}
+}
+
+func isIterator(of ast.Expr) bool {
+	if index, ok := of.(*ast.IndexExpr); ok {
+		of = index.X
+	}
+	if index, ok := of.(*ast.IndexListExpr); ok {
+		of = index.X
+	}
+	sel, ok := of.(*ast.SelectorExpr)
+	if !ok {
+		return false
+	}
+	from, ok := sel.X.(*ast.Ident)
+	return ok && from.Name == "iter"
+}
+
+// leavesIn counts the steps by which a loop's body leaves the loop.
+func leavesIn(body *ast.BlockStmt) int {
+	count := 0
+	ast.Inspect(body, func(n ast.Node) bool {
+		switch n := n.(type) {
+		case *ast.ReturnStmt:
+			count++
+		case *ast.BranchStmt:
+			if n.Tok == token.BREAK {
+				count++
+			}
+		}
+		return true
+	})
+	return count
+}
