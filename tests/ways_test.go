@@ -231,3 +231,43 @@ func leavesIn(body *ast.BlockStmt) int {
 	})
 	return count
 }
+
+// rangesOverTexts counts the ranges over a text that comes in as a parameter.
+func rangesOverTexts(file *ast.File) int {
+	count := 0
+	for _, d := range file.Decls {
+		f, ok := d.(*ast.FuncDecl)
+		if !ok {
+			continue
+		}
+		texts := map[string]bool{}
+		for _, p := range f.Type.Params.List {
+			if of, ok := p.Type.(*ast.Ident); ok && of.Name == "string" {
+				for _, name := range p.Names {
+					texts[name.Name] = true
+				}
+			}
+		}
+		ast.Inspect(f, func(n ast.Node) bool {
+			if r, ok := n.(*ast.RangeStmt); ok {
+				if over, ok := r.X.(*ast.Ident); ok && texts[over.Name] {
+					count++
+				}
+			}
+			return true
+		})
+	}
+	return count
+}
+
+func TestWaysOfTokens(t *testing.T) {
+	if labelledSteps(t, "l07_lex.go", token.GOTO) < 2 {
+		t.Error("the scanner does not go from state to state by goto")
+	}
+	if namesIn(t, "l07_lex.go")["rune"] == 0 {
+		t.Error("letters are no runes")
+	}
+	if rangesOverTexts(parsed(t, "l07_lex.go")) == 0 {
+		t.Error("letters come by no range over a text")
+	}
+}
