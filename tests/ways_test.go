@@ -271,3 +271,51 @@ func TestWaysOfTokens(t *testing.T) {
 		t.Error("letters come by no range over a text")
 	}
 }
+
+// callsOf counts the calls of that name.
+func callsOf(in ast.Node, name string) int {
+	count := 0
+	ast.Inspect(in, func(n ast.Node) bool {
+		if call, ok := n.(*ast.CallExpr); ok {
+			if id, ok := call.Fun.(*ast.Ident); ok && id.Name == name {
+				count++
+			}
+		}
+		return true
+	})
+	return count
+}
+
+// recoversIn counts the deferred function literals that recover.
+func recoversIn(file *ast.File) int {
+	count := 0
+	ast.Inspect(file, func(n ast.Node) bool {
+		if d, ok := n.(*ast.DeferStmt); ok {
+			if f, ok := d.Call.Fun.(*ast.FuncLit); ok && callsOf(f, "recover") > 0 {
+				count++
+			}
+		}
+		return true
+	})
+	return count
+}
+
+func TestWaysOfTrees(t *testing.T) {
+	file := parsed(t, "l08_parse.go")
+	if callsOf(file, "panic") == 0 {
+		t.Error("the reader of tokens does not panic")
+	}
+	if recoversIn(file) == 0 {
+		t.Error("no fault is recovered")
+	}
+	falls := 0
+	ast.Inspect(file, func(n ast.Node) bool {
+		if b, ok := n.(*ast.BranchStmt); ok && b.Tok == token.FALLTHROUGH {
+			falls++
+		}
+		return true
+	})
+	if falls < 2 {
+		t.Error("levels do not fall through a switch")
+	}
+}
