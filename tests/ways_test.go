@@ -319,3 +319,52 @@ func TestWaysOfTrees(t *testing.T) {
 		t.Error("levels do not fall through a switch")
 	}
 }
+
+// errorTypes is the names of the types that have a method Error.
+func errorTypes(file *ast.File) map[string]bool {
+	types := map[string]bool{}
+	for _, d := range file.Decls {
+		f, ok := d.(*ast.FuncDecl)
+		if !ok || f.Recv == nil || f.Name.Name != "Error" {
+			continue
+		}
+		of := f.Recv.List[0].Type
+		if star, ok := of.(*ast.StarExpr); ok {
+			of = star.X
+		}
+		types[of.(*ast.Ident).Name] = true
+	}
+	return types
+}
+
+func TestWaysOfChecking(t *testing.T) {
+	file := parsed(t, "l09_check.go")
+	types := errorTypes(file)
+	if len(types) == 0 {
+		t.Error("faults are no errors of a type of their own")
+	}
+	asked, targets, literals := 0, 0, 0
+	ast.Inspect(file, func(n ast.Node) bool {
+		switch n := n.(type) {
+		case *ast.CallExpr:
+			if s, ok := n.Fun.(*ast.SelectorExpr); ok && s.Sel.Name == "As" {
+				if from, ok := s.X.(*ast.Ident); ok && from.Name == "errors" {
+					asked++
+				}
+			}
+		case *ast.ValueSpec:
+			if of, ok := n.Type.(*ast.Ident); ok && types[of.Name] {
+				targets++
+			}
+		case *ast.FuncLit:
+			literals++
+		}
+		return true
+	})
+	if asked == 0 || targets == 0 {
+		t.Error("faults are not found by errors.As")
+	}
+	if literals == 0 {
+		t.Error("scopes are no closures")
+	}
+}
