@@ -368,3 +368,75 @@ func TestWaysOfChecking(t *testing.T) {
 		t.Error("scopes are no closures")
 	}
 }
+
+// boolArrays is the names of the types that are arrays of booleans, or of such
+// arrays.
+func boolArrays(file *ast.File) map[string]bool {
+	types := map[string]bool{}
+	for range 2 { // an array of arrays may be declared ahead of these
+		ast.Inspect(file, func(n ast.Node) bool {
+			s, ok := n.(*ast.TypeSpec)
+			if !ok {
+				return true
+			}
+			if a, ok := s.Type.(*ast.ArrayType); ok && a.Len != nil {
+				if of, ok := a.Elt.(*ast.Ident); ok && (of.Name == "bool" || types[of.Name]) {
+					types[s.Name.Name] = true
+				}
+			}
+			return true
+		})
+	}
+	return types
+}
+
+// answers tells for each function of one result the name of its type.
+func answers(file *ast.File) map[string]string {
+	all := map[string]string{}
+	for _, d := range file.Decls {
+		f, ok := d.(*ast.FuncDecl)
+		if !ok || f.Type.Results == nil || len(f.Type.Results.List) != 1 {
+			continue
+		}
+		if of, ok := f.Type.Results.List[0].Type.(*ast.Ident); ok {
+			all[f.Name.Name] = of.Name
+		}
+	}
+	return all
+}
+
+func TestWaysOfEffects(t *testing.T) {
+	file := parsed(t, "l10_effects.go")
+	types, results := boolArrays(file), answers(file)
+	if len(types) == 0 {
+		t.Error("sets are no arrays of booleans")
+	}
+	compared, joins := 0, 0
+	ast.Inspect(file, func(n ast.Node) bool {
+		switch n := n.(type) {
+		case *ast.BinaryExpr:
+			call, ok := n.X.(*ast.CallExpr)
+			if !ok || n.Op != token.EQL && n.Op != token.NEQ {
+				return true
+			}
+			if f, ok := call.Fun.(*ast.Ident); ok && types[results[f.Name]] {
+				compared++
+			}
+		case *ast.FuncType:
+			for _, p := range n.Params.List {
+				if many, ok := p.Type.(*ast.Ellipsis); ok {
+					if of, ok := many.Elt.(*ast.Ident); ok && types[of.Name] {
+						joins++
+					}
+				}
+			}
+		}
+		return true
+	})
+	if compared == 0 {
+		t.Error("sets are not compared as arrays")
+	}
+	if joins == 0 {
+		t.Error("sets are not joined by a variadic function")
+	}
+}
