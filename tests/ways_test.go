@@ -440,3 +440,56 @@ func TestWaysOfEffects(t *testing.T) {
 		t.Error("sets are not joined by a variadic function")
 	}
 }
+
+// methodExpressions counts the methods of a type that stand, taken from the
+// type itself, in a map literal.
+func methodExpressions(in ast.Node) int {
+	count := 0
+	ast.Inspect(in, func(n ast.Node) bool {
+		lit, ok := n.(*ast.CompositeLit)
+		if !ok {
+			return true
+		}
+		if _, ok := lit.Type.(*ast.MapType); !ok {
+			return true
+		}
+		for _, e := range lit.Elts {
+			if pairOf, ok := e.(*ast.KeyValueExpr); ok && isMethodExpression(pairOf.Value) {
+				count++
+			}
+		}
+		return true
+	})
+	return count
+}
+
+// isMethodExpression looks for the form (*T).name.
+func isMethodExpression(e ast.Expr) bool {
+	sel, ok := e.(*ast.SelectorExpr)
+	if !ok {
+		return false
+	}
+	of, ok := sel.X.(*ast.ParenExpr)
+	if !ok {
+		return false
+	}
+	_, ok = of.X.(*ast.StarExpr)
+	return ok
+}
+
+func TestWaysOfCode(t *testing.T) {
+	file := parsed(t, "l11_code.go")
+	if methodExpressions(file) < 10 {
+		t.Error("what a node comes to stands in no map of method expressions")
+	}
+	defers := 0
+	ast.Inspect(file, func(n ast.Node) bool {
+		if _, ok := n.(*ast.DeferStmt); ok {
+			defers++
+		}
+		return true
+	})
+	if defers == 0 {
+		t.Error("places are put right by no deferred call")
+	}
+}
