@@ -493,3 +493,35 @@ func TestWaysOfCode(t *testing.T) {
 		t.Error("places are put right by no deferred call")
 	}
 }
+
+// functionTables counts the functions that make a table of functions.
+func functionTables(file *ast.File) int {
+	count := 0
+	ast.Inspect(file, func(n ast.Node) bool {
+		lit, ok := n.(*ast.CompositeLit)
+		if !ok {
+			return true
+		}
+		if list, ok := lit.Type.(*ast.ArrayType); ok && len(lit.Elts) > 0 {
+			if _, ok := list.Elt.(*ast.FuncType); ok {
+				count++
+			}
+		}
+		return true
+	})
+	return count
+}
+
+func TestWaysOfTheMachine(t *testing.T) {
+	if functionTables(parsed(t, "l12_vm.go")) == 0 {
+		t.Error("instructions are no functions in a table")
+	}
+	for _, d := range parsed(t, "l12_vm.go").Decls {
+		if g, ok := d.(*ast.GenDecl); ok && g.Tok == token.VAR {
+			t.Error("the table is made by no function")
+		}
+	}
+	if labelledSteps(t, "l12_vm.go", token.BREAK) == 0 {
+		t.Error("the machine's loop is left by no labelled break")
+	}
+}
