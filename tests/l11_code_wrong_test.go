@@ -60,18 +60,22 @@ func TestCodeOfWrongArguments(t *testing.T) {
 	compiles(t, checkReg(), right, "s", impl.Program{Code: codeOf("Tick, Push 1, SetRes 0, Tick, Spawn 0, End"), Starts: []int{0}, Slots: []int{0}, Lists: [][]int{nil}})
 }
 
+// faultyTops holds tops each of which has a fault behind a function f of one
+// whole number, or ahead of it, and beside a system s.
+var faultyTops = []string{
+	"system s { }", "fn f() int { return 1; }", "fn g(a int, a int) int { return a; }", "system q { let a = 1; let a = 2; }",
+	"system q { x = 1; }", "system q { $Nope = 1; }", "system q { hear Nope as h { } }", "fn g() int { return g(); }", "fn g() int { return k(); } fn k() int { return 1; }", "system q { do s(); }",
+	"system q { $Score = yes; }", "fn g() int { return yes; }", "system q { if 1 { } }", "system q { loop yes { } }", "system q { do f(yes); }",
+	"system q { kill; }", "fn g() int { }", "fn g() int { let a = 1; }", "system q { return 1; }", "fn g() int { each with Hp { } return 1; }", "fn g() int { hear Hit as h { } return 1; }",
+	"system q { each with Hp { let a = .Mp; } }", "system q { each with Hp { each with Mp { } } }", "system q { hear Hit as h { hear Hit as i { } } }",
+	"system q { do f(1, 2); }", "system q { do f(); }", "fn g() int { return f(1, 2); }",
+}
+
 // Each code of Check, by a fault in a top that the system does not call, ahead
 // of it and behind it, and in the system itself.
 func TestCodeOfTreesThatMayNotRun(t *testing.T) {
 	met := map[int]int{}
-	for _, fault := range []string{
-		"system s { }", "fn f() int { return 1; }", "fn g(a int, a int) int { return a; }", "system q { let a = 1; let a = 2; }",
-		"system q { x = 1; }", "system q { $Nope = 1; }", "system q { hear Nope as h { } }", "fn g() int { return g(); }", "fn g() int { return k(); } fn k() int { return 1; }", "system q { do s(); }",
-		"system q { $Score = yes; }", "fn g() int { return yes; }", "system q { if 1 { } }", "system q { loop yes { } }", "system q { do f(yes); }",
-		"system q { kill; }", "fn g() int { }", "fn g() int { let a = 1; }", "system q { return 1; }", "fn g() int { each with Hp { } return 1; }", "fn g() int { hear Hit as h { } return 1; }",
-		"system q { each with Hp { let a = .Mp; } }", "system q { each with Hp { each with Mp { } } }", "system q { hear Hit as h { hear Hit as i { } } }",
-		"system q { do f(1, 2); }", "system q { do f(); }", "fn g() int { return f(1, 2); }",
-	} {
+	for _, fault := range faultyTops {
 		for _, text := range []string{"fn f(n int) int { $Score = n; return n; } system s { $Wind = 1.5; } " + fault, fault + " fn f(n int) int { return n; } system s { $Wind = 1.5; }", "fn f(n int) int { return n; } " + fault + " system s { }"} {
 			x := parsedTree(t, text)
 			code, _ := impl.Check(checkReg(), x)

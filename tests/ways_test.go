@@ -525,3 +525,67 @@ func TestWaysOfTheMachine(t *testing.T) {
 		t.Error("the machine's loop is left by no labelled break")
 	}
 }
+
+// makers is the names of the functions of a layer that answer a function, of a
+// type with a name of its own or without; those of methods have a dot ahead.
+func makers(file *ast.File) map[string]bool {
+	types := map[string]bool{}
+	ast.Inspect(file, func(n ast.Node) bool {
+		if s, ok := n.(*ast.TypeSpec); ok {
+			_, types[s.Name.Name] = s.Type.(*ast.FuncType)
+		}
+		return true
+	})
+	names := map[string]bool{}
+	for _, d := range file.Decls {
+		f, ok := d.(*ast.FuncDecl)
+		if !ok || f.Type.Results == nil {
+			continue
+		}
+		name := f.Name.Name
+		if f.Recv != nil {
+			name = "." + name
+		}
+		for _, result := range f.Type.Results.List {
+			of, named := result.Type.(*ast.Ident)
+			_, plain := result.Type.(*ast.FuncType)
+			names[name] = names[name] || plain || named && types[of.Name]
+		}
+	}
+	return names
+}
+
+func TestWaysOfTheMeaning(t *testing.T) {
+	file := parsed(t, "l13_mean.go")
+	made := makers(file)
+	literals := 0
+	ast.Inspect(file, func(n ast.Node) bool {
+		lit, ok := n.(*ast.FuncLit)
+		if !ok {
+			return true
+		}
+		literals++
+		ast.Inspect(lit.Body, func(n ast.Node) bool {
+			switch n := n.(type) {
+			case *ast.FuncLit:
+				t.Error("a closure is made each time that another one is called")
+			case *ast.CallExpr:
+				name := ""
+				switch f := n.Fun.(type) {
+				case *ast.Ident:
+					name = f.Name
+				case *ast.SelectorExpr:
+					name = "." + f.Sel.Name
+				}
+				if made[name] {
+					t.Error("what", name, "makes is not made once")
+				}
+			}
+			return true
+		})
+		return true
+	})
+	if literals < 10 || !made[".statement"] || !made[".expression"] {
+		t.Error("statements are no closures")
+	}
+}
