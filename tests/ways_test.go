@@ -232,25 +232,25 @@ func leavesIn(body *ast.BlockStmt) int {
 	return count
 }
 
-// rangesOverTexts counts the ranges over a text that comes in as a parameter.
-func rangesOverTexts(file *ast.File) int {
+// rangesOver counts the ranges over a parameter of that type.
+func rangesOver(file *ast.File, kind string) int {
 	count := 0
 	for _, d := range file.Decls {
 		f, ok := d.(*ast.FuncDecl)
 		if !ok {
 			continue
 		}
-		texts := map[string]bool{}
+		params := map[string]bool{}
 		for _, p := range f.Type.Params.List {
-			if of, ok := p.Type.(*ast.Ident); ok && of.Name == "string" {
+			if of, ok := p.Type.(*ast.Ident); ok && of.Name == kind {
 				for _, name := range p.Names {
-					texts[name.Name] = true
+					params[name.Name] = true
 				}
 			}
 		}
 		ast.Inspect(f, func(n ast.Node) bool {
 			if r, ok := n.(*ast.RangeStmt); ok {
-				if over, ok := r.X.(*ast.Ident); ok && texts[over.Name] {
+				if over, ok := r.X.(*ast.Ident); ok && params[over.Name] {
 					count++
 				}
 			}
@@ -267,7 +267,7 @@ func TestWaysOfTokens(t *testing.T) {
 	if namesIn(t, "l07_lex.go")["rune"] == 0 {
 		t.Error("letters are no runes")
 	}
-	if rangesOverTexts(parsed(t, "l07_lex.go")) == 0 {
+	if rangesOver(parsed(t, "l07_lex.go"), "string") == 0 {
 		t.Error("letters come by no range over a text")
 	}
 }
@@ -587,5 +587,33 @@ func TestWaysOfTheMeaning(t *testing.T) {
 	})
 	if literals < 10 || !made[".statement"] || !made[".expression"] {
 		t.Error("statements are no closures")
+	}
+}
+
+func TestWaysOfOrders(t *testing.T) {
+	file := parsed(t, "l14_order.go")
+	assigned, shifted := 0, 0
+	ast.Inspect(file, func(n ast.Node) bool {
+		switch n := n.(type) {
+		case *ast.AssignStmt:
+			switch n.Tok {
+			case token.OR_ASSIGN, token.AND_ASSIGN, token.AND_NOT_ASSIGN, token.XOR_ASSIGN:
+				assigned++
+			}
+		case *ast.BinaryExpr:
+			if n.Op == token.SHL || n.Op == token.SHR {
+				shifted++
+			}
+		}
+		return true
+	})
+	if assigned == 0 || shifted == 0 {
+		t.Error("who is ahead of whom does not stand in bits")
+	}
+	if labelledSteps(t, "l14_order.go", token.BREAK) == 0 {
+		t.Error("the search for a circle is left by no labelled break")
+	}
+	if rangesOver(file, "int") == 0 {
+		t.Error("numbers are not ranged over")
 	}
 }
