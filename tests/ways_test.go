@@ -4,6 +4,7 @@ import (
 	"go/ast"
 	"go/parser"
 	"go/token"
+	"strings"
 	"testing"
 )
 
@@ -615,5 +616,60 @@ func TestWaysOfOrders(t *testing.T) {
 	}
 	if rangesOver(file, "int") == 0 {
 		t.Error("numbers are not ranged over")
+	}
+}
+
+// mapTypes is the names that a layer gives to types of maps.
+func mapTypes(file *ast.File) map[string]bool {
+	names := map[string]bool{}
+	ast.Inspect(file, func(n ast.Node) bool {
+		if spec, ok := n.(*ast.TypeSpec); ok {
+			if _, ok := spec.Type.(*ast.MapType); ok {
+				names[spec.Name.Name] = true
+			}
+		}
+		return true
+	})
+	return names
+}
+
+// sortsItsKeys tells whether a function that has a map of such a type as its
+// receiver ranges over that, and sorts behind it.
+func sortsItsKeys(f *ast.FuncDecl, types map[string]bool) bool {
+	if f.Recv == nil || len(f.Recv.List[0].Names) == 0 {
+		return false
+	}
+	of, ok := f.Recv.List[0].Type.(*ast.Ident)
+	if !ok || !types[of.Name] {
+		return false
+	}
+	ranged, sorted := token.NoPos, token.NoPos
+	ast.Inspect(f, func(n ast.Node) bool {
+		switch n := n.(type) {
+		case *ast.RangeStmt:
+			if over, ok := n.X.(*ast.Ident); ok && over.Name == f.Recv.List[0].Names[0].Name {
+				ranged = n.Pos()
+			}
+		case *ast.SelectorExpr:
+			if strings.HasPrefix(n.Sel.Name, "Sort") {
+				sorted = n.Pos()
+			}
+		}
+		return true
+	})
+	return ranged != token.NoPos && sorted > ranged
+}
+
+func TestWaysOfSchedules(t *testing.T) {
+	file := parsed(t, "l15_sched.go")
+	types := mapTypes(file)
+	told := 0
+	for _, d := range file.Decls {
+		if f, ok := d.(*ast.FuncDecl); ok && sortsItsKeys(f, types) {
+			told++
+		}
+	}
+	if told == 0 {
+		t.Error("sets are no maps whose keys are told sorted")
 	}
 }
