@@ -673,3 +673,47 @@ func TestWaysOfSchedules(t *testing.T) {
 		t.Error("sets are no maps whose keys are told sorted")
 	}
 }
+
+// genericOverLists is the names of the functions that have lists of a type that
+// is handed in.
+func genericOverLists(file *ast.File) map[string]bool {
+	names := map[string]bool{}
+	for _, d := range file.Decls {
+		f, ok := d.(*ast.FuncDecl)
+		if !ok || f.Type.TypeParams == nil {
+			continue
+		}
+		types := map[string]bool{}
+		for _, p := range f.Type.TypeParams.List {
+			for _, name := range p.Names {
+				types[name.Name] = true
+			}
+		}
+		for _, p := range f.Type.Params.List {
+			if list, ok := p.Type.(*ast.ArrayType); ok && list.Len == nil {
+				if of, ok := list.Elt.(*ast.Ident); ok && types[of.Name] {
+					names[f.Name.Name] = true
+				}
+			}
+		}
+	}
+	return names
+}
+
+func TestWaysOfClashes(t *testing.T) {
+	file := parsed(t, "l16_clash.go")
+	generic := genericOverLists(file)
+	for _, d := range file.Decls {
+		f, ok := d.(*ast.FuncDecl)
+		if !ok || f.Name.Name != "Clashes" && f.Name.Name != "Strictly" {
+			continue
+		}
+		calls := 0
+		for name := range generic {
+			calls += callsOf(f, name)
+		}
+		if calls == 0 {
+			t.Error("what", f.Name.Name, "tells is found by no generic function over lists")
+		}
+	}
+}
