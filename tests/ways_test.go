@@ -717,3 +717,60 @@ func TestWaysOfClashes(t *testing.T) {
 		}
 	}
 }
+
+// functionLists counts the lists of three functions at least, and the loops that
+// call what such a list has; types are those with a function's name.
+func functionLists(file *ast.File) (lists int, calls int) {
+	types := map[string]bool{}
+	ast.Inspect(file, func(n ast.Node) bool {
+		if s, ok := n.(*ast.TypeSpec); ok {
+			_, types[s.Name.Name] = s.Type.(*ast.FuncType)
+		}
+		return true
+	})
+	ofFunctions := func(e ast.Expr) bool {
+		list, ok := e.(*ast.ArrayType)
+		if !ok {
+			return false
+		}
+		of, named := list.Elt.(*ast.Ident)
+		_, plain := list.Elt.(*ast.FuncType)
+		return plain || named && types[of.Name]
+	}
+	handed := map[string]bool{}
+	ast.Inspect(file, func(n ast.Node) bool {
+		switch n := n.(type) {
+		case *ast.CompositeLit:
+			if ofFunctions(n.Type) && len(n.Elts) >= 3 {
+				lists++
+			}
+		case *ast.Field:
+			for _, name := range n.Names {
+				handed[name.Name] = handed[name.Name] || ofFunctions(n.Type)
+			}
+		case *ast.RangeStmt:
+			over, ok := n.X.(*ast.Ident)
+			if one, named := n.Value.(*ast.Ident); ok && named && handed[over.Name] {
+				calls += callsOf(n.Body, one.Name)
+			}
+		}
+		return true
+	})
+	return lists, calls
+}
+
+func TestWaysOfPlans(t *testing.T) {
+	file := parsed(t, "l17_plan.go")
+	lists, calls := functionLists(file)
+	if lists == 0 {
+		t.Error("passes are no function values in a list")
+	}
+	if calls == 0 {
+		t.Error("no loop calls the passes")
+	}
+	for _, d := range file.Decls {
+		if g, ok := d.(*ast.GenDecl); ok && g.Tok == token.VAR {
+			t.Error("the list of passes is made by no function")
+		}
+	}
+}
