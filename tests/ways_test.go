@@ -774,3 +774,62 @@ func TestWaysOfPlans(t *testing.T) {
 		}
 	}
 }
+
+// chanLists counts the lists of channels, which workers have their own of.
+func chanLists(file *ast.File) int {
+	count := 0
+	ast.Inspect(file, func(n ast.Node) bool {
+		if list, ok := n.(*ast.ArrayType); ok {
+			if _, ok := list.Elt.(*ast.ChanType); ok {
+				count++
+			}
+		}
+		return true
+	})
+	return count
+}
+
+// selects counts the select statements, and those of their cases that send and
+// that receive.
+func selects(file *ast.File) (count, sends, receives int) {
+	ast.Inspect(file, func(n ast.Node) bool {
+		switch n := n.(type) {
+		case *ast.SelectStmt:
+			count++
+		case *ast.CommClause:
+			if _, ok := n.Comm.(*ast.SendStmt); ok {
+				sends++
+			} else if n.Comm != nil {
+				receives++
+			}
+		}
+		return true
+	})
+	return count, sends, receives
+}
+
+func TestWaysOfWorkers(t *testing.T) {
+	file := parsed(t, "l18_pool.go")
+	begun := 0
+	ast.Inspect(file, func(n ast.Node) bool {
+		if _, ok := n.(*ast.GoStmt); ok {
+			begun++
+		}
+		return true
+	})
+	if begun == 0 {
+		t.Error("no worker is a goroutine")
+	}
+	if chanLists(file) == 0 {
+		t.Error("workers have no channels of their own")
+	}
+	if count, sends, receives := selects(file); count != 1 || sends == 0 || receives == 0 {
+		t.Error("who is ready and who has ended are not in one select:", count, sends, receives)
+	}
+	names := namesIn(t, "l18_pool.go")
+	for _, want := range []string{"WaitGroup", "Add", "Done", "Wait"} {
+		if names[want] == 0 {
+			t.Error("workers are joined without", want)
+		}
+	}
+}
