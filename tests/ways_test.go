@@ -833,3 +833,57 @@ func TestWaysOfWorkers(t *testing.T) {
 		}
 	}
 }
+
+// methodOwners is, of each method that an interface of the file asks for, the
+// types that have it.
+func methodOwners(file *ast.File) map[string][]string {
+	owners := map[string][]string{}
+	ast.Inspect(file, func(n ast.Node) bool {
+		if face, ok := n.(*ast.InterfaceType); ok {
+			for _, method := range face.Methods.List {
+				for _, name := range method.Names {
+					owners[name.Name] = nil
+				}
+			}
+		}
+		return true
+	})
+	for _, d := range file.Decls {
+		f, ok := d.(*ast.FuncDecl)
+		if !ok || f.Recv == nil {
+			continue
+		}
+		of, plain := f.Recv.List[0].Type.(*ast.Ident)
+		if types, asked := owners[f.Name.Name]; asked && plain {
+			owners[f.Name.Name] = append(types, of.Name)
+		}
+	}
+	return owners
+}
+
+func TestWaysOfGates(t *testing.T) {
+	owners := methodOwners(parsed(t, "l19_gates.go"))
+	if len(owners) == 0 {
+		t.Error("no interface stands ahead of the gates")
+	}
+	for name, types := range owners {
+		if len(types) < 4 {
+			t.Error("gates are no types of their own: only", types, "have", name)
+		}
+	}
+	for _, d := range parsed(t, "l19_gates.go").Decls {
+		if f, ok := d.(*ast.FuncDecl); ok && f.Name.Name == "Times" {
+			called := false
+			ast.Inspect(f, func(n ast.Node) bool {
+				if sel, ok := n.(*ast.SelectorExpr); ok {
+					_, asked := owners[sel.Sel.Name]
+					called = called || asked
+				}
+				return true
+			})
+			if !called {
+				t.Error("Times asks no gate")
+			}
+		}
+	}
+}
