@@ -36,21 +36,26 @@ func gatedOf(text string) impl.Sched {
 	s := impl.Sched{Reg: gatesReg(), Text: schedText()}
 	for i, word := range strings.Fields(text) {
 		system := impl.Sys{Name: schedNames[i]}
-		for _, part := range strings.Split(word, ",") {
-			name, value, _ := strings.Cut(part, "=")
-			switch name {
-			case "every":
-				system.Every, _ = strconv.Atoi(value)
-			case "when":
-				system.When = value
-			default:
-				system.Gate = gateWords[name]
-				system.Phase, _ = strconv.Atoi(value)
-			}
-		}
+		setGates(&system, word)
 		s.Systems = append(s.Systems, system)
 	}
 	return s
+}
+
+// setGates reads one word of gatedOf.
+func setGates(system *impl.Sys, word string) {
+	for _, part := range strings.Split(word, ",") {
+		name, value, _ := strings.Cut(part, "=")
+		switch name {
+		case "every":
+			system.Every, _ = strconv.Atoi(value)
+		case "when":
+			system.When = value
+		default:
+			system.Gate = gateWords[name]
+			system.Phase, _ = strconv.Atoi(value)
+		}
+	}
 }
 
 // worldWith is a new world with these resources, such as "Go=1 Phase=-3".

@@ -887,3 +887,58 @@ func TestWaysOfGates(t *testing.T) {
 		}
 	}
 }
+
+// reachedFrom is the functions and methods of a file that one of them calls, and
+// that these call, and so on, by their names alone.
+func reachedFrom(file *ast.File, name string) map[string]*ast.FuncDecl {
+	all := map[string]*ast.FuncDecl{}
+	for _, d := range file.Decls {
+		if f, ok := d.(*ast.FuncDecl); ok {
+			all[f.Name.Name] = f
+		}
+	}
+	reached := map[string]*ast.FuncDecl{}
+	for work := []string{name}; len(work) > 0; work = work[1:] {
+		f, ok := all[work[0]]
+		if _, seen := reached[work[0]]; seen || !ok {
+			continue
+		}
+		reached[work[0]] = f
+		ast.Inspect(f, func(n ast.Node) bool {
+			if id, ok := n.(*ast.Ident); ok {
+				work = append(work, id.Name)
+			}
+			return true
+		})
+	}
+	return reached
+}
+
+func TestWaysOfFrames(t *testing.T) {
+	file := parsed(t, "l20_frame.go")
+	if recoversIn(file) == 0 {
+		t.Error("no task that fails is contained")
+	}
+	for _, face := range []string{"Task", "FrameOne"} {
+		contained, thrown := 0, 0
+		for _, f := range reachedFrom(file, face) {
+			contained += recoversIn(&ast.File{Name: file.Name, Decls: []ast.Decl{f}})
+			thrown += callsOf(f, "panic")
+		}
+		if contained == 0 || thrown == 0 {
+			t.Error(face, "reaches", thrown, "panics, and", contained, "that recover")
+		}
+	}
+	pointers := 0
+	ast.Inspect(file, func(n ast.Node) bool {
+		if star, ok := n.(*ast.StarExpr); ok {
+			if of, ok := star.X.(*ast.Ident); ok && of.Name == "Trouble" {
+				pointers++
+			}
+		}
+		return true
+	})
+	if pointers == 0 {
+		t.Error("troubles are told by no pointer")
+	}
+}
