@@ -130,30 +130,48 @@ func TestFramesLeaveTheArgumentsAlone(t *testing.T) {
 	}
 }
 
-// Lists of one argument may lie in one memory; an answer's may not.
-func TestGamesThatShareInTheArgument(t *testing.T) {
+// sharing is a game of which several lists lie in one memory, by three systems
+// of that text.
+type sharing struct {
+	s       impl.Sched
+	g       impl.Game
+	nums    []int
+	cursors []int
+}
+
+func sharingGame(text string) sharing {
 	r := impl.Reg{
 		Comps: []impl.Decl{decl("A", impl.KInt), decl("B", impl.KInt)},
 		Ress:  []impl.Decl{decl("C", impl.KInt), decl("F", impl.KInt)},
 		Evts:  []impl.Decl{decl("D", impl.KInt), decl("E", impl.KInt)},
 	}
-	s := impl.Sched{
-		Reg:     r,
-		Text:    "system a { each with A { .A = .A * 10 + 7; $C = .A; } emit D $F; hear E as e { $F = $F + e; } spawn(A = 3, B = $F); } system b { hear D as e { emit E e; } each with B { drop B; } } system c { let q = 1 / 0; }",
-		Systems: []impl.Sys{{Name: "a", Every: 1}, {Name: "b"}, {Name: "c"}},
-	}
-	events, nums := numbered(0, 6), []int{0, 1, 0, 1}
-	cursors := []int{0, 1}
-	g := impl.Game{
-		World: impl.World{
-			Ents:   impl.Ents{Gens: nums[:3]},
-			Tables: []impl.Table{{Cols: nums[:2], Rows: []impl.Ent{ent(0, 0), ent(1, 1)}, Cells: [][]impl.Val{events[:2], events[:2]}}, {Cols: nums[:1], Rows: []impl.Ent{ent(2, 0)}, Cells: [][]impl.Val{events[2:3]}}},
-			Res:    events[:2],
+	events, nums, cursors := numbered(0, 6), []int{0, 1, 0, 1, 2}, []int{0, 1}
+	return sharing{
+		s: impl.Sched{Reg: r, Text: text, Systems: []impl.Sys{{Name: "a", Every: 1}, {Name: "b"}, {Name: "c"}}},
+		g: impl.Game{
+			World: impl.World{
+				Ents:   impl.Ents{Gens: nums[:3]},
+				Tables: []impl.Table{{Cols: nums[:2], Rows: []impl.Ent{ent(0, 0), ent(1, 1)}, Cells: [][]impl.Val{events[:2], events[:2]}}, {Cols: nums[:1], Rows: []impl.Ent{ent(2, 0)}, Cells: [][]impl.Val{events[2:3]}}},
+				Res:    events[:2],
+			},
+			Streams: []impl.Stream{stream(0, events[:3], events[1:]), stream(2, events, events[:2])},
+			Cursors: [][]int{cursors, nums[:2], cursors},
+			Clocks:  impl.Clocks{Acc: nums[:3]},
 		},
-		Streams: []impl.Stream{stream(0, events[:3], events[1:]), stream(2, events, events[:2])},
-		Cursors: [][]int{cursors, nums[:2], cursors},
-		Clocks:  impl.Clocks{Acc: nums[:3]},
+		nums:    nums,
+		cursors: cursors,
 	}
+}
+
+// kept tells whether all of it is as at first.
+func (h sharing) kept(was impl.Game) bool {
+	return sameGame(h.g, was) && slices.Equal(h.nums, []int{0, 1, 0, 1, 2}) && slices.Equal(h.cursors, []int{0, 1})
+}
+
+// Lists of one argument may lie in one memory; an answer's may not.
+func TestGamesThatShareInTheArgument(t *testing.T) {
+	h := sharingGame("system a { each with A { .A = .A * 10 + 7; $C = .A; } emit D $F; hear E as e { $F = $F + e; } spawn(A = 3, B = $F); } system b { hear D as e { emit E e; } each with B { drop B; } } system c { let q = 1 / 0; }")
+	s, g := h.s, h.g
 	was := cloneGame(g)
 	for times := range impl.MaxTimes + 1 {
 		want, list, told := taskDone(t, s, was, 0, times, 100)
@@ -173,7 +191,7 @@ func TestGamesThatShareInTheArgument(t *testing.T) {
 		marks.frame(f)
 		marks.game(refusedGame)
 		marks.frame(refusedFrame)
-		if !marks.kept() || !sameGame(g, was) || !slices.Equal(nums, []int{0, 1, 0, 1}) || !slices.Equal(cursors, []int{0, 1}) {
+		if !marks.kept() || !h.kept(was) {
 			t.Fatal("memory is shared")
 		}
 	}

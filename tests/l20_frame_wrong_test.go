@@ -32,15 +32,21 @@ func schedRefusedFor(t *testing.T, what string, s impl.Sched, g impl.Game, code,
 	}
 }
 
-func TestFramesOfWrongSchedules(t *testing.T) {
-	right := staged("One>b", "a every=10: $Score = 1;", "b when=Over,in=2: spawn(Hp = 1);", "c:")
-	right.Systems[0].Sets = []string{"One"}
-	g := gameOf(right, runState())
-	frameDone(t, right, g, 10, 50)
-	for _, c := range []struct {
-		code, at int
-		turn     func(s *impl.Sched)
-	}{
+// gatedShow is a right schedule with a set, a rule and gates.
+func gatedShow() impl.Sched {
+	s := staged("One>b", "a every=10: $Score = 1;", "b when=Over,in=2: spawn(Hp = 1);", "c:")
+	s.Systems[0].Sets = []string{"One"}
+	return s
+}
+
+// wrongTurn makes gatedShow wrong, for a code and its number.
+type wrongTurn struct {
+	code, at int
+	turn     func(s *impl.Sched)
+}
+
+func wrongTurns() []wrongTurn {
+	return []wrongTurn{
 		{impl.SchReg, 0, func(s *impl.Sched) { s.Reg.Evts[0].Name = "Hp" }},
 		{impl.SchText, 19, func(s *impl.Sched) { s.Text = "system a { } system" }},
 		{impl.SchText, 0, func(s *impl.Sched) { s.Text = "?" + s.Text }},
@@ -53,7 +59,24 @@ func TestFramesOfWrongSchedules(t *testing.T) {
 		{impl.SchGate, 1, func(s *impl.Sched) { s.Systems[1].When = "Score" }},
 		{impl.SchGate, 0, func(s *impl.Sched) { s.Systems[0].Every = impl.MaxEvery + 1 }},
 		{impl.SchRule, 0, func(s *impl.Sched) { s.Rules[0].After = "nobody" }},
-	} {
+	}
+}
+
+// strangeGame is wrong in all that it has.
+func strangeGame() impl.Game {
+	return impl.Game{
+		World:   impl.World{Ents: impl.Ents{Gens: []int{-5}, Free: []int{7, 7}}, Tables: []impl.Table{{Cols: []int{3, 1}, Rows: []impl.Ent{{At: 9, Gen: -9}}, Cells: [][]impl.Val{nil, {{Kind: 77}}, {whole(1)}}}, {}}, Res: []impl.Val{{}, {Kind: -1, I: 2, X: nan, Y: inf}}},
+		Streams: []impl.Stream{{First: -8, Old: make([]impl.Val, 300)}, {New: []impl.Val{float(negZero)}}, {}},
+		Cursors: [][]int{nil, {1}, {1, 2, 3, 4, 5, 6}},
+		Clocks:  impl.Clocks{Acc: []int{-1, mostInt}, Phase: leastInt, Begun: true},
+	}
+}
+
+func TestFramesOfWrongSchedules(t *testing.T) {
+	right := gatedShow()
+	g := gameOf(right, runState())
+	frameDone(t, right, g, 10, 50)
+	for _, c := range wrongTurns() {
 		s := turnedBy(right, c.turn)
 		if code, at := impl.SchedOk(s); code != c.code || at != c.at {
 			t.Error("SchedOk", code, at, "not", c.code, c.at)
@@ -155,12 +178,7 @@ func TestGamesOfAnotherSchedule(t *testing.T) {
 
 // All at once: the game is handed back, whatever it is.
 func TestFramesOfAllWrong(t *testing.T) {
-	strange := impl.Game{
-		World:   impl.World{Ents: impl.Ents{Gens: []int{-5}, Free: []int{7, 7}}, Tables: []impl.Table{{Cols: []int{3, 1}, Rows: []impl.Ent{{At: 9, Gen: -9}}, Cells: [][]impl.Val{nil, {{Kind: 77}}, {whole(1)}}}, {}}, Res: []impl.Val{{}, {Kind: -1, I: 2, X: nan, Y: inf}}},
-		Streams: []impl.Stream{{First: -8, Old: make([]impl.Val, 300)}, {New: []impl.Val{float(negZero)}}, {}},
-		Cursors: [][]int{nil, {1}, {1, 2, 3, 4, 5, 6}},
-		Clocks:  impl.Clocks{Acc: []int{-1, mostInt}, Phase: leastInt, Begun: true},
-	}
+	strange := strangeGame()
 	for _, g := range []impl.Game{{}, strange, {Cursors: make([][]int, 1000)}, {Streams: make([]impl.Stream, 1000)}, {Clocks: behind(5, make([]int, 1000)...)}, {World: crowd(impl.MaxEnts + 1)}} {
 		for _, s := range []impl.Sched{{Text: "}"}, {Reg: wrongRegs()[0]}, staged("", "a:"), staged("", "a: kill;"), {Systems: make([]impl.Sys, 17)}} {
 			code, at := plainRefusal(s)

@@ -942,3 +942,33 @@ func TestWaysOfFrames(t *testing.T) {
 		t.Error("troubles are told by no pointer")
 	}
 }
+
+func TestWaysOfSideBySide(t *testing.T) {
+	file := parsed(t, "l21_side.go")
+	begun, calls := 0, map[string]int{}
+	for _, f := range reachedFrom(file, "FrameSide") {
+		ast.Inspect(f, func(n ast.Node) bool {
+			switch n := n.(type) {
+			case *ast.GoStmt:
+				begun++
+			case *ast.CallExpr:
+				if sel, ok := n.Fun.(*ast.SelectorExpr); ok {
+					calls[sel.Sel.Name]++
+				}
+			}
+			return true
+		})
+	}
+	if begun == 0 {
+		t.Error("no task runs in a goroutine")
+	}
+	if namesIn(t, "l21_side.go")["Mutex"] == 0 {
+		t.Error("what tasks leave is put together without a mutex")
+	}
+	if calls["Lock"] < 2 || calls["Lock"] != calls["Unlock"] {
+		t.Error("what tasks find and leave is not under a mutex:", calls["Lock"], calls["Unlock"])
+	}
+	if calls["Wait"] == 0 {
+		t.Error("nobody waits for the end of a task")
+	}
+}
