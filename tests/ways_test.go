@@ -972,3 +972,25 @@ func TestWaysOfSideBySide(t *testing.T) {
 		t.Error("nobody waits for the end of a task")
 	}
 }
+
+func TestWaysOfChanges(t *testing.T) {
+	file := parsed(t, "l22_change.go")
+	deleted, looked := 0, 0
+	for _, f := range reachedFrom(file, "Change") {
+		deleted += callsOf(f, "delete")
+		ast.Inspect(f, func(n ast.Node) bool {
+			if set, ok := n.(*ast.AssignStmt); ok && len(set.Lhs) == 2 && len(set.Rhs) == 1 {
+				if _, asked := set.Rhs[0].(*ast.IndexExpr); asked {
+					looked++
+				}
+			}
+			return true
+		})
+	}
+	if looked == 0 {
+		t.Error("what goes over is looked up in no map")
+	}
+	if deleted == 0 {
+		t.Error("what has gone over is deleted out of no map")
+	}
+}
