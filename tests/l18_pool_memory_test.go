@@ -139,7 +139,7 @@ func TestPoolAnswersHandedInAgain(t *testing.T) {
 // goroutinesUpTo waits a while: one that has told its end may still be about to
 // go.
 func goroutinesUpTo(most int) bool {
-	for range 200 {
+	for range 1000 {
 		if runtime.NumGoroutine() <= most {
 			return true
 		}

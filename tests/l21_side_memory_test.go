@@ -6,7 +6,6 @@ import (
 	"slices"
 	"sync"
 	"testing"
-	"time"
 
 	"loop.example/g00070/impl"
 )
@@ -180,14 +179,9 @@ func TestSidesLeaveNobodyBehind(t *testing.T) {
 		impl.FrameSide(s, g, 0, 2000, i%2*9, nil)
 		impl.FrameIn(s, g, 0, 2000, [][]int{{4, 0, 3, 2}, {1}})
 	}
-	// one that has said that it is done may take a moment to be gone
-	for range 100 {
-		if runtime.NumGoroutine() <= before {
-			return
-		}
-		time.Sleep(10 * time.Millisecond)
+	if !goroutinesUpTo(before) {
+		t.Error(runtime.NumGoroutine()-before, "are left")
 	}
-	t.Error(runtime.NumGoroutine()-before, "are left")
 }
 
 // Many calls at one time, by the same arguments, do not meet.

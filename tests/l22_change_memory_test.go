@@ -5,7 +5,6 @@ import (
 	"slices"
 	"sync"
 	"testing"
-	"time"
 
 	"loop.example/g00070/impl"
 )
@@ -234,14 +233,9 @@ func TestChangesAtOneTime(t *testing.T) {
 			t.Fatal(changeText(c.old, c.next, c.g))
 		}
 	}
-	// one that has said that it is done may take a moment to be gone
-	for range 100 {
-		if runtime.NumGoroutine() <= before {
-			return
-		}
-		time.Sleep(10 * time.Millisecond)
+	if !goroutinesUpTo(before) {
+		t.Error(runtime.NumGoroutine()-before, "are left")
 	}
-	t.Error(runtime.NumGoroutine()-before, "are left")
 }
 
 // Nothing is kept: other calls between two change nothing.
