@@ -113,6 +113,12 @@ func TestTroublesOfPlay(t *testing.T) {
 	playIs(t, none, newGame(t, none), beatsBy(1, 2, 3, 4, 5), "[]")
 }
 
+func TestPlayConstant(t *testing.T) {
+	if impl.MaxBeats != 30 {
+		t.Error("another number of beats")
+	}
+}
+
 func TestMostBeats(t *testing.T) {
 	s := staged("", "a: $Score = $Score + 1;", "b every=3: let q = 1 / 0;")
 	g := newGame(t, s)
