@@ -994,3 +994,92 @@ func TestWaysOfChanges(t *testing.T) {
 		t.Error("what has gone over is deleted out of no map")
 	}
 }
+
+// linkedTypes is the names of the struct types that have pointers to their own
+// kind, and of those that they embed.
+func linkedTypes(file *ast.File) (linked, leaves map[string]bool) {
+	linked, leaves = map[string]bool{}, map[string]bool{}
+	ast.Inspect(file, func(n ast.Node) bool {
+		spec, ok := n.(*ast.TypeSpec)
+		if !ok {
+			return true
+		}
+		fields, ok := spec.Type.(*ast.StructType)
+		if !ok {
+			return true
+		}
+		ast.Inspect(fields, func(n ast.Node) bool {
+			if star, ok := n.(*ast.StarExpr); ok {
+				if of, ok := star.X.(*ast.Ident); ok && of.Name == spec.Name.Name {
+					linked[of.Name] = true
+				}
+			}
+			return true
+		})
+		for _, field := range fields.Fields.List {
+			if of, ok := field.Type.(*ast.Ident); ok && linked[spec.Name.Name] && len(field.Names) == 0 {
+				leaves[of.Name] = true
+			}
+		}
+		return true
+	})
+	return linked, leaves
+}
+
+// comparesIn counts the comparisons with a literal of one of these types.
+func comparesIn(f *ast.FuncDecl, types map[string]bool) int {
+	count := 0
+	ast.Inspect(f, func(n ast.Node) bool {
+		b, ok := n.(*ast.BinaryExpr)
+		if !ok || b.Op != token.EQL && b.Op != token.NEQ {
+			return true
+		}
+		lit, ok := ast.Unparen(b.Y).(*ast.CompositeLit)
+		if !ok {
+			return true
+		}
+		if of, ok := lit.Type.(*ast.Ident); ok && types[of.Name] {
+			count++
+		}
+		return true
+	})
+	return count
+}
+
+// callsItself tells whether a function or a method has a call of its own name.
+func callsItself(f *ast.FuncDecl) bool {
+	found := callsOf(f, f.Name.Name) > 0
+	ast.Inspect(f, func(n ast.Node) bool {
+		if call, ok := n.(*ast.CallExpr); ok {
+			if sel, ok := call.Fun.(*ast.SelectorExpr); ok && sel.Sel.Name == f.Name.Name {
+				found = true
+			}
+		}
+		return true
+	})
+	return found
+}
+
+func TestWaysOfSmallerTrees(t *testing.T) {
+	file := parsed(t, "l23_trees.go")
+	linked, leaves := linkedTypes(file)
+	if len(linked) == 0 || len(leaves) == 0 {
+		t.Error("trees are not linked by pointers, with leaves of their own:", linked, leaves)
+	}
+	for _, face := range []string{"Fold", "Prune"} {
+		again := 0
+		for _, f := range reachedFrom(file, face) {
+			again += countIf(callsItself(f))
+		}
+		if again < 2 {
+			t.Error("what", face, "tells is not linked and rebuilt by recursion:", again)
+		}
+	}
+	compared := 0
+	for _, f := range reachedFrom(file, "Fold") {
+		compared += comparesIn(f, leaves)
+	}
+	if compared == 0 {
+		t.Error("leaves are not compared as structs")
+	}
+}
