@@ -71,8 +71,8 @@ func TestAnyLeavesFolded(t *testing.T) {
 	}
 }
 
-// Texts that may run: what is folded may run, too, and has the same kinds; a
-// top has what a tally tells that it comes to.
+// Texts that may run: what is folded may run, too, and comes to the same tops,
+// which are those that a tally tells.
 func TestAnyTextsMadeSmaller(t *testing.T) {
 	w := newAuthor(233)
 	met := map[int]int{}
