@@ -21,42 +21,57 @@ func (s *stamps) effect(e impl.Effect) {
 	}
 }
 
-// The arguments, with room behind each of their lists, are as they were behind
-// each call, and the answers are lists of their own.
-func TestEffectsLeaveTheArgumentsAlone(t *testing.T) {
+// regTree is a tree by a Reg, with names that it may be asked for.
+type regTree struct {
+	r     impl.Reg
+	x     impl.Tree
+	names []string
+}
+
+// regTrees holds memoryTrees, and so many texts by chance of so many tops at
+// most, each right and marred; all of them by checkReg and by another Reg.
+func regTrees(seed, texts, most int) []regTree {
 	trees := memoryTrees()
-	w := newAuthor(110)
-	for range 100 {
-		tops := w.text(4, 2)
+	w := newAuthor(seed)
+	for range texts {
+		tops := w.text(most, 2)
 		trees = append(trees, treeOf(tops...), treeOf(w.mar(tops)...))
 	}
 	regs := append(wrongRegs()[:6], checkReg(), worldReg(), impl.Reg{})
+	var list []regTree
 	for i, x := range trees {
-		for _, r := range []impl.Reg{checkReg(), regs[i%len(regs)]} {
-			names := []string{"", "spare", "s"}
-			for _, top := range x.Tops {
-				if top >= 0 && top < len(x.Nodes) {
-					names = append(names, x.Nodes[top].Text)
-				}
+		names := []string{"", "spare", "s"}
+		for _, top := range x.Tops {
+			if top >= 0 && top < len(x.Nodes) {
+				names = append(names, x.Nodes[top].Text)
 			}
-			var g guards
-			roomyReg, roomyTree := g.roomyReg(r), g.roomyTree(x)
-			for _, name := range names {
-				var s stamps
-				want, wantOk := impl.Effects(r, x, name)
-				e, ok := impl.Effects(roomyReg, roomyTree, name)
-				if ok != wantOk || effText(e) != effText(want) {
-					t.Fatal("spare room is looked at, or something is kept from call to call", i, name)
-				}
-				s.effect(e)
-				s.effect(want)
-				if !s.kept() {
-					t.Fatal("two lists of one answer share memory", i, name)
-				}
+		}
+		list = append(list, regTree{checkReg(), x, names}, regTree{regs[i%len(regs)], x, names})
+	}
+	return list
+}
+
+// The arguments, with room behind each of their lists, are as they were behind
+// each call, and the answers are lists of their own.
+func TestEffectsLeaveTheArgumentsAlone(t *testing.T) {
+	for i, c := range regTrees(110, 100, 4) {
+		var g guards
+		roomyReg, roomyTree := g.roomyReg(c.r), g.roomyTree(c.x)
+		for _, name := range c.names {
+			var s stamps
+			want, wantOk := impl.Effects(c.r, c.x, name)
+			e, ok := impl.Effects(roomyReg, roomyTree, name)
+			if ok != wantOk || effText(e) != effText(want) {
+				t.Fatal("spare room is looked at, or something is kept from call to call", i, name)
 			}
-			if !g.kept() {
-				t.Fatal("an argument was written into", i)
+			s.effect(e)
+			s.effect(want)
+			if !s.kept() {
+				t.Fatal("two lists of one answer share memory", i, name)
 			}
+		}
+		if !g.kept() {
+			t.Fatal("an argument was written into", i)
 		}
 	}
 }

@@ -124,47 +124,32 @@ func (s *stamps) program(p impl.Program) {
 // The arguments, with room behind each of their lists, are as they were behind
 // each call, and the answers are lists of their own.
 func TestCompileLeavesTheArgumentsAlone(t *testing.T) {
-	trees := memoryTrees()
-	w := newAuthor(116)
-	for range 150 {
-		tops := w.text(4, 2)
-		trees = append(trees, treeOf(tops...), treeOf(w.mar(tops)...))
-	}
-	regs := append(wrongRegs()[:6], checkReg(), worldReg(), impl.Reg{})
 	count := 0
-	for i, x := range trees {
-		for _, r := range []impl.Reg{checkReg(), regs[i%len(regs)]} {
-			names := []string{"", "spare", "s"}
-			for _, top := range x.Tops {
-				if top >= 0 && top < len(x.Nodes) {
-					names = append(names, x.Nodes[top].Text)
-				}
+	for i, c := range regTrees(116, 150, 4) {
+		var g guards
+		roomyReg, roomyTree := g.roomyReg(c.r), g.roomyTree(c.x)
+		for _, name := range c.names {
+			var s stamps
+			want, wantOk := impl.Compile(c.r, c.x, name)
+			was := cloneProgram(want)
+			p, ok := impl.Compile(roomyReg, roomyTree, name)
+			if ok != wantOk || !sameProgram(p, want) {
+				t.Fatal("spare room is looked at, or something is kept from call to call", i, name)
 			}
-			var g guards
-			roomyReg, roomyTree := g.roomyReg(r), g.roomyTree(x)
-			for _, name := range names {
-				var s stamps
-				want, wantOk := impl.Compile(r, x, name)
-				was := cloneProgram(want)
-				p, ok := impl.Compile(roomyReg, roomyTree, name)
-				if ok != wantOk || !sameProgram(p, want) {
-					t.Fatal("spare room is looked at, or something is kept from call to call", i, name)
-				}
-				if ok {
-					count++
-				}
-				s.program(p)
-				if !sameProgram(want, was) {
-					t.Fatal("two answers share memory", i, name)
-				}
-				s.program(want)
-				if again, _ := impl.Compile(r, x, name); !s.kept() || !sameProgram(again, was) {
-					t.Fatal("two lists share memory, or the third answer is another one", i, name)
-				}
+			if ok {
+				count++
 			}
-			if !g.kept() {
-				t.Fatal("an argument was written into", i)
+			s.program(p)
+			if !sameProgram(want, was) {
+				t.Fatal("two answers share memory", i, name)
 			}
+			s.program(want)
+			if again, _ := impl.Compile(c.r, c.x, name); !s.kept() || !sameProgram(again, was) {
+				t.Fatal("two lists share memory, or the third answer is another one", i, name)
+			}
+		}
+		if !g.kept() {
+			t.Fatal("an argument was written into", i)
 		}
 	}
 	if count < 100 {

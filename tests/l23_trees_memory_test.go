@@ -46,44 +46,29 @@ func (s *stamps) smaller(a smallerTold) {
 // The arguments, with room behind each of their lists, are as they were behind
 // each call; answers share no memory with them, nor with one another.
 func TestSmallerTreesLeaveTheArgumentsAlone(t *testing.T) {
-	trees := memoryTrees()
-	w := newAuthor(239)
-	for range 150 {
-		tops := w.text(5, 2)
-		trees = append(trees, treeOf(tops...), treeOf(w.mar(tops)...))
-	}
-	regs := append(wrongRegs()[:6], checkReg(), worldReg(), impl.Reg{})
 	told := 0
-	for i, x := range trees {
-		for _, r := range []impl.Reg{checkReg(), regs[i%len(regs)]} {
-			names := []string{"", "spare", "s"}
-			for _, top := range x.Tops {
-				if top >= 0 && top < len(x.Nodes) {
-					names = append(names, x.Nodes[top].Text)
-				}
+	for i, c := range regTrees(239, 150, 5) {
+		var g guards
+		roomyReg, roomyTree := g.roomyReg(c.r), g.roomyTree(c.x)
+		for _, name := range c.names {
+			want, again := smallerAll(c.r, c.x, name), smallerAll(c.r, c.x, name)
+			a := smallerAll(roomyReg, roomyTree, name)
+			if !a.same(want) {
+				t.Fatal("spare room is looked at, or something is kept from call to call", i, name)
 			}
-			var g guards
-			roomyReg, roomyTree := g.roomyReg(r), g.roomyTree(x)
-			for _, name := range names {
-				want, again := smallerAll(r, x, name), smallerAll(r, x, name)
-				a := smallerAll(roomyReg, roomyTree, name)
-				if !a.same(want) {
-					t.Fatal("spare room is looked at, or something is kept from call to call", i, name)
-				}
-				told += len(a.names)
-				var s stamps
-				s.smaller(a)
-				s.smaller(want)
-				if !s.kept() {
-					t.Fatal("two lists of answers share memory", i, name)
-				}
-				if !again.same(smallerAll(r, x, name)) || !again.same(smallerAll(roomyReg, roomyTree, name)) {
-					t.Fatal("a changed answer is told again", i, name)
-				}
+			told += len(a.names)
+			var s stamps
+			s.smaller(a)
+			s.smaller(want)
+			if !s.kept() {
+				t.Fatal("two lists of answers share memory", i, name)
 			}
-			if !g.kept() {
-				t.Fatal("an argument was written into", i)
+			if !again.same(smallerAll(c.r, c.x, name)) || !again.same(smallerAll(roomyReg, roomyTree, name)) {
+				t.Fatal("a changed answer is told again", i, name)
 			}
+		}
+		if !g.kept() {
+			t.Fatal("an argument was written into", i)
 		}
 	}
 	if told < 200 {
