@@ -366,6 +366,12 @@ func deskIs(t *testing.T, text, want string) {
 // of the chapter. It tells what the desk tells.
 func deskHolds(t *testing.T, text string) string {
 	t.Helper()
+	return deskHoldsAt(t, text, func(int) bool { return true })
+}
+
+// deskHoldsAt tries the cuts that are asked for, of those that may be.
+func deskHoldsAt(t *testing.T, text string, asked func(lines int) bool) string {
+	t.Helper()
 	got := impl.Desk(text)
 	d := plainly(t, text)
 	if got != d.told.String() {
@@ -376,7 +382,7 @@ func deskHolds(t *testing.T, text string) string {
 			t.Fatalf("cut behind %d, told is no beginning: %q\n%s", n, told, numberedLines(text))
 		}
 		for _, ended := range []bool{false, true} {
-			if ended && n >= len(d.lines) {
+			if ended && n >= len(d.lines) || !asked(n) {
 				continue
 			}
 			if cut := impl.Desk(cutText(text, n, ended)); cut != told {

@@ -1083,3 +1083,109 @@ func TestWaysOfSmallerTrees(t *testing.T) {
 		t.Error("leaves are not compared as structs")
 	}
 }
+
+// structsOf is the struct types of a file, by their names.
+func structsOf(file *ast.File) map[string]*ast.StructType {
+	all := map[string]*ast.StructType{}
+	ast.Inspect(file, func(n ast.Node) bool {
+		if spec, ok := n.(*ast.TypeSpec); ok {
+			if fields, ok := spec.Type.(*ast.StructType); ok {
+				all[spec.Name.Name] = fields
+			}
+		}
+		return true
+	})
+	return all
+}
+
+// functionFields is the names of a struct's fields that are functions.
+func functionFields(s *ast.StructType) map[string]bool {
+	names := map[string]bool{}
+	for _, field := range s.Fields.List {
+		if _, ok := field.Type.(*ast.FuncType); ok {
+			for _, name := range field.Names {
+				names[name.Name] = true
+			}
+		}
+	}
+	return names
+}
+
+// calledFields counts the calls of x.name of such names.
+func calledFields(f *ast.FuncDecl, names map[string]bool) int {
+	count := 0
+	ast.Inspect(f, func(n ast.Node) bool {
+		if call, ok := n.(*ast.CallExpr); ok {
+			if sel, ok := call.Fun.(*ast.SelectorExpr); ok && names[sel.Sel.Name] {
+				count++
+			}
+		}
+		return true
+	})
+	return count
+}
+
+// ordersIn counts the rows of map literals whose values are structs of a type
+// with functions in their fields.
+func ordersIn(f *ast.FuncDecl, structs map[string]*ast.StructType) (rows int, fields map[string]bool) {
+	ast.Inspect(f, func(n ast.Node) bool {
+		lit, ok := n.(*ast.CompositeLit)
+		if !ok {
+			return true
+		}
+		if of, ok := lit.Type.(*ast.MapType); ok {
+			if value, ok := of.Value.(*ast.Ident); ok && structs[value.Name] != nil {
+				fields = functionFields(structs[value.Name])
+				rows += len(lit.Elts) * countIf(len(fields) > 0)
+			}
+		}
+		return true
+	})
+	return rows, fields
+}
+
+func TestWaysOfTheDesk(t *testing.T) {
+	file := parsed(t, "l24_desk.go")
+	structs, reached := structsOf(file), reachedFrom(file, "Desk")
+	rows, called, told := 0, 0, 0
+	for _, f := range reached {
+		found, fields := ordersIn(f, structs)
+		rows += found
+		for _, other := range reached {
+			called += calledFields(other, fields)
+		}
+	}
+	if rows != 17 || called == 0 {
+		t.Error("orders do not stand in a map of functions in struct fields:", rows, called)
+	}
+	// the writer is embedded where it is a part without a name that has a
+	// strings.Builder of its own, and methods that write into it
+	for _, whole := range structs {
+		for _, field := range whole.Fields.List {
+			part, ok := field.Type.(*ast.Ident)
+			if !ok || len(field.Names) > 0 || structs[part.Name] == nil {
+				continue
+			}
+			for _, f := range reached {
+				if f.Recv != nil && receives(f) == part.Name {
+					told += calledFields(f, map[string]bool{"WriteString": true})
+				}
+			}
+		}
+	}
+	if told == 0 {
+		t.Error("the desk's writer is not embedded")
+	}
+}
+
+// receives is the name of the type that a method has, whether by a pointer or not.
+func receives(f *ast.FuncDecl) string {
+	of := f.Recv.List[0].Type
+	if star, ok := of.(*ast.StarExpr); ok {
+		of = star.X
+	}
+	if id, ok := of.(*ast.Ident); ok {
+		return id.Name
+	}
+	return ""
+}
