@@ -31,7 +31,8 @@ func anyLine(d *dice, words ...any) string {
 
 // deskText tells a schedule by orders; a text is one item with its order, as are
 // a system and what it has. Phases that are no number of an order are others.
-func deskText(d *dice, s impl.Sched) []string {
+func deskText(w *author, s impl.Sched) []string {
+	d := &w.dice
 	kinds := []string{"", "int", "real", "pair", "bool"}
 	var items []string
 	for _, list := range []struct {
@@ -45,7 +46,7 @@ func deskText(d *dice, s impl.Sched) []string {
 	text := strings.TrimSuffix(s.Text, "\n")
 	items = append(items, anyLine(d, "text", strings.Count(text, "\n")+1)+"\n"+text)
 	for _, system := range s.Systems {
-		items = append(items, deskSystem(d, system))
+		items = append(items, deskSystem(w, system))
 	}
 	for _, rule := range s.Rules {
 		items = append(items, anyLine(d, "order", rule.Before, rule.After))
@@ -56,22 +57,24 @@ func deskText(d *dice, s impl.Sched) []string {
 	return items
 }
 
-func deskSystem(d *dice, system impl.Sys) string {
-	item := anyLine(d, "system", strings.TrimSpace(system.Name+" "+strings.Join(system.Sets, " ")))
+func deskSystem(w *author, system impl.Sys) string {
+	d := &w.dice
+	var items []string
 	if system.When != "" {
-		item += "\n" + anyLine(d, "when", system.When)
+		items = append(items, anyLine(d, "when", system.When))
 	}
 	if system.Every > 0 {
-		item += "\n" + anyLine(d, "every", system.Every)
+		items = append(items, anyLine(d, "every", system.Every))
 	}
 	if system.Gate > 0 {
 		phase := system.Phase
 		if phase < 0 || phase > 999999999 {
 			phase = d.roll(4)
 		}
-		item += "\n" + anyLine(d, "gate", system.Gate, phase)
+		items = append(items, anyLine(d, "gate", system.Gate, phase))
 	}
-	return item
+	first := anyLine(d, "system", strings.TrimSpace(system.Name+" "+strings.Join(system.Sets, " ")))
+	return strings.Join(append([]string{first}, w.shuffled(items)...), "\n")
 }
 
 func anyFrameLine(d *dice, right bool) string {
@@ -117,7 +120,7 @@ func anyPlayLine(d *dice, r impl.Reg) string {
 // with changes between, here and there.
 func anyDesk(w *author, s impl.Sched) string {
 	d := &w.dice
-	items := deskText(d, s)
+	items := deskText(w, s)
 	if d.roll(5) == 0 {
 		items = w.shuffled(items)
 	}

@@ -1,6 +1,7 @@
 package tests
 
 import (
+	"fmt"
 	"strings"
 	"testing"
 
@@ -235,6 +236,30 @@ gate 2 999999999 | ok
 start          | ok
 set M 999999999| ok
 frame 1 1      | stage 0 +any -any; things 0`)
+}
+
+// What a system has is set in any order, and what is set twice is as it was set
+// last; each leaves the others as they are.
+func TestDeskWhenEveryAndGate(t *testing.T) {
+	rows := [][2]string{{"when No", "when Go"}, {"every 7", "every 10"}, {"gate 3 1", "gate 1 5"}}
+	for _, order := range arrangements(len(rows)) {
+		text := "res Go bool\nres Mode int\nres Runs int\ntext 1\nsystem a { $Runs = $Runs + 1; }\nsystem a\n"
+		for again := range 2 {
+			for _, at := range order {
+				text += rows[at][again] + "\n"
+			}
+		}
+		text += "start\nframe 10 1\nset Go yes\nframe 10 1\nset Mode 5\nframe 25 1\nframe 4 1\nframe 1 1\nset Go no\nframe 10 1\nshow\n"
+		want := ""
+		for i, told := range strings.Split("ok; ok; ok; ok; ; ok; ok; ok; ok; ok; ok; ok; ok; stage 0, things 0; ok; stage 0, things 0; ok; stage 0 +a -a, things 0; stage 0, things 0; stage 0 +a -a, things 0; ok; stage 0, things 0; Go=no, Mode=5, Runs=3", "; ") {
+			for _, line := range strings.Split(told, ", ") {
+				if line != "" {
+					want += fmt.Sprintf("%d: %s\n", i+1, line)
+				}
+			}
+		}
+		deskIs(t, text, want)
+	}
 }
 
 func TestDeskStrict(t *testing.T) {

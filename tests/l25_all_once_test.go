@@ -1,0 +1,50 @@
+package tests
+
+import (
+	"runtime"
+	"sync"
+	"testing"
+)
+
+// All functions at one time by the same arguments, right and odd ones: nobody
+// meets another one, and nobody is left.
+func TestAllAtOneTime(t *testing.T) {
+	w := newAuthor(288)
+	type call struct {
+		name string
+		args some
+		want some
+	}
+	var calls []call
+	right, r := rightCalls(t), anyRights(w)
+	for _, name := range allNames() {
+		calls = append(calls, call{name, right[name], nil}, call{name, r.anyArguments(&w.dice, name), nil})
+	}
+	for i, one := range calls {
+		calls[i].want, _ = toldBy(allCalls[one.name], one.args)
+	}
+	before := runtime.NumGoroutine()
+	var joined sync.WaitGroup
+	wrong := make([]string, 12)
+	for i := range wrong {
+		joined.Add(1)
+		go func() {
+			defer joined.Done()
+			for at := range calls {
+				one := calls[(at+i*len(calls)/len(wrong))%len(calls)]
+				if told, panics := toldBy(allCalls[one.name], one.args); panics != "" || !told.alike(one.want, false) {
+					wrong[i] = one.name + " " + panics
+				}
+			}
+		}()
+	}
+	joined.Wait()
+	for _, text := range wrong {
+		if text != "" {
+			t.Error(text)
+		}
+	}
+	if !goroutinesUpTo(before) {
+		t.Error(runtime.NumGoroutine()-before, "are left")
+	}
+}
