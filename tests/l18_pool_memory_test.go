@@ -1,6 +1,7 @@
 package tests
 
 import (
+	"fmt"
 	"runtime"
 	"slices"
 	"sync"
@@ -148,6 +149,25 @@ func goroutinesUpTo(most int) bool {
 	return false
 }
 
+// atOnce does something some times, each in a goroutine of its own: none tells
+// anything wrong, and none is left.
+func atOnce(t *testing.T, times int, do func(i int) string) {
+	t.Helper()
+	before := runtime.NumGoroutine()
+	var joined sync.WaitGroup
+	for i := range times {
+		joined.Go(func() {
+			if wrong := do(i); wrong != "" {
+				t.Error(wrong)
+			}
+		})
+	}
+	joined.Wait()
+	if !goroutinesUpTo(before) {
+		t.Error(runtime.NumGoroutine()-before, "are left")
+	}
+}
+
 func TestNoWorkerIsLeft(t *testing.T) {
 	before := runtime.NumGoroutine()
 	for _, c := range poolCases() {
@@ -184,13 +204,11 @@ func TestRunsHangOnPicksAlone(t *testing.T) {
 }
 
 func allAtOnce(t *testing.T, cases []poolCase, want []pooled) {
-	var joined sync.WaitGroup
-	for i, c := range cases {
-		joined.Go(func() {
-			if !poolAll(c.hall, c.done, c.picks).same(want[i]) {
-				t.Error("another answer side by side of", c.hall)
-			}
-		})
-	}
-	joined.Wait()
+	t.Helper()
+	atOnce(t, len(cases), func(i int) string {
+		if c := cases[i]; !poolAll(c.hall, c.done, c.picks).same(want[i]) {
+			return fmt.Sprint("another answer side by side of ", c.hall)
+		}
+		return ""
+	})
 }

@@ -4,7 +4,6 @@ import (
 	"fmt"
 	"runtime"
 	"slices"
-	"sync"
 	"testing"
 
 	"loop.example/g00070/impl"
@@ -193,25 +192,14 @@ func TestSidesAtOneTime(t *testing.T) {
 		a := playOf(t, s, anyGame(d, s), anyTick(d), impl.MaxFuel)
 		picks, orders := anyPicks(d, 30), a.anyOrders(d)
 		want := a.moves(t, 3, picks)
-		var joined sync.WaitGroup
-		wrong := make([]string, 12)
-		for i := range wrong {
-			joined.Add(1)
-			go func() {
-				defer joined.Done()
-				f, moves, _, _ := impl.FrameSide(s, a.g, a.tick, a.fuel, 3, picks)
-				h, _, _ := impl.FrameIn(s, a.g, a.tick, a.fuel, orders)
-				if !sameFrame(f, a.one) || !sameFrame(h, a.one) || !sameMoves(moves, want) || len(s.Systems) > 0 && impl.Stray(s, a.g, a.g, 0) {
-					wrong[i] = fmt.Sprintf("call %d:\n%s", i, frameText(f))
-				}
-			}()
-		}
-		joined.Wait()
-		for _, text := range wrong {
-			if text != "" {
-				t.Fatalf("%s\n%v", text, a)
+		atOnce(t, 12, func(i int) string {
+			f, moves, _, _ := impl.FrameSide(s, a.g, a.tick, a.fuel, 3, picks)
+			h, _, _ := impl.FrameIn(s, a.g, a.tick, a.fuel, orders)
+			if !sameFrame(f, a.one) || !sameFrame(h, a.one) || !sameMoves(moves, want) || len(s.Systems) > 0 && impl.Stray(s, a.g, a.g, 0) {
+				return fmt.Sprintf("call %d:\n%s\n%v", i, frameText(f), a)
 			}
-		}
+			return ""
+		})
 	}
 }
 

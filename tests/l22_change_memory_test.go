@@ -1,9 +1,7 @@
 package tests
 
 import (
-	"runtime"
 	"slices"
-	"sync"
 	"testing"
 
 	"loop.example/g00070/impl"
@@ -214,27 +212,16 @@ func TestChangesHandedInAgain(t *testing.T) {
 // have ended when they answer.
 func TestChangesAtOneTime(t *testing.T) {
 	w := newAuthor(251)
-	before := runtime.NumGoroutine()
 	for range 8 {
 		s := anySideShow(w)
 		c := changeCase{s, anyNext(w, s), anyGame(&w.dice, s), anyBeats(&w.dice, 5), "at one time"}
 		want := changeAll(c)
-		var joined sync.WaitGroup
-		wrong := make([]bool, 12)
-		for i := range wrong {
-			joined.Add(1)
-			go func() {
-				defer joined.Done()
-				wrong[i] = !changeAll(c).same(want)
-			}()
-		}
-		joined.Wait()
-		if slices.Contains(wrong, true) {
-			t.Fatal(changeText(c.old, c.next, c.g))
-		}
-	}
-	if !goroutinesUpTo(before) {
-		t.Error(runtime.NumGoroutine()-before, "are left")
+		atOnce(t, 12, func(int) string {
+			if !changeAll(c).same(want) {
+				return changeText(c.old, c.next, c.g)
+			}
+			return ""
+		})
 	}
 }
 

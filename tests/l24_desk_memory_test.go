@@ -3,7 +3,6 @@ package tests
 import (
 	"runtime"
 	"strings"
-	"sync"
 	"testing"
 	"time"
 	"unsafe"
@@ -94,28 +93,13 @@ func TestDesksAtOneTime(t *testing.T) {
 	for _, text := range texts {
 		told = append(told, impl.Desk(text))
 	}
-	before := runtime.NumGoroutine()
-	var joined sync.WaitGroup
-	wrong := make([]string, 60)
-	for i := range wrong {
-		joined.Add(1)
-		go func() {
-			defer joined.Done()
-			at := i % len(texts)
-			if got := impl.Desk(texts[at]); got != told[at] {
-				wrong[i] = firstDifference(got, told[at]) + "\n" + numberedLines(texts[at])
-			}
-		}()
-	}
-	joined.Wait()
-	for _, text := range wrong {
-		if text != "" {
-			t.Error(text)
+	atOnce(t, 60, func(i int) string {
+		at := i % len(texts)
+		if got := impl.Desk(texts[at]); got != told[at] {
+			return firstDifference(got, told[at]) + "\n" + numberedLines(texts[at])
 		}
-	}
-	if !goroutinesUpTo(before) {
-		t.Error(runtime.NumGoroutine()-before, "are left")
-	}
+		return ""
+	})
 }
 
 // The greatest work that a text can ask for is done in some seconds: as many

@@ -1,10 +1,6 @@
 package tests
 
-import (
-	"runtime"
-	"sync"
-	"testing"
-)
+import "testing"
 
 // All functions at one time by the same arguments, right and odd ones: nobody
 // meets another one, and nobody is left.
@@ -23,28 +19,13 @@ func TestAllAtOneTime(t *testing.T) {
 	for i, one := range calls {
 		calls[i].want, _ = toldBy(allCalls[one.name], one.args)
 	}
-	before := runtime.NumGoroutine()
-	var joined sync.WaitGroup
-	wrong := make([]string, 12)
-	for i := range wrong {
-		joined.Add(1)
-		go func() {
-			defer joined.Done()
-			for at := range calls {
-				one := calls[(at+i*len(calls)/len(wrong))%len(calls)]
-				if told, panics := toldBy(allCalls[one.name], one.args); panics != "" || !told.alike(one.want, false) {
-					wrong[i] = one.name + " " + panics
-				}
+	atOnce(t, 12, func(i int) string {
+		for at := range calls {
+			one := calls[(at+i*len(calls)/12)%len(calls)]
+			if told, panics := toldBy(allCalls[one.name], one.args); panics != "" || !told.alike(one.want, false) {
+				return one.name + " " + panics
 			}
-		}()
-	}
-	joined.Wait()
-	for _, text := range wrong {
-		if text != "" {
-			t.Error(text)
 		}
-	}
-	if !goroutinesUpTo(before) {
-		t.Error(runtime.NumGoroutine()-before, "are left")
-	}
+		return ""
+	})
 }
