@@ -166,10 +166,8 @@ func anyRights(w *author) rights {
 		}
 	}
 	r.putGraphs(d, s)
-	if d.roll(4) == 0 {
-		r.put(anyDesk(w, s))
-	}
-	r.put("start\nframe 1 1\nshow", "0.5", "12.250", "3.125", "1.", impl.Effect{}, impl.Program{}, []impl.Cmd{}, [][]impl.Cmd{}, impl.Cmd{Kind: impl.CmdSpawn})
+	r.put(anyDesk(w, s), anyDesk(w, s), "start\nframe 1 1\nshow", "0.5", "12.250", "3.125", "1.")
+	r.put(impl.Effect{}, impl.Program{}, []impl.Cmd{}, [][]impl.Cmd{}, impl.Cmd{Kind: impl.CmdSpawn})
 	return r
 }
 
@@ -206,9 +204,9 @@ func (r rights) putThings(d *dice, s impl.Sched, g impl.Game) {
 func (r rights) putGraphs(d *dice, s impl.Sched) {
 	p, _, _ := impl.MakePlan(s)
 	r.put(p, impl.Plan{}, p.Order, p.Edges, len(p.Order))
-	other := anyGraph(d, d.roll(impl.MaxLinear+1))
-	for range 6 {
-		r.put(other.n, other.edges)
+	other := anyGraph(d, d.roll(oneOf(d, []int{impl.MaxMeet, impl.MaxMeet, impl.MaxLinear})+1))
+	for i := range 8 {
+		r.put(other.n, other.edges, min(i, max(0, other.n-1)))
 	}
 	picks := anyPicks(d, 20)
 	moves, _ := impl.PoolRun(other.n, other.edges, 2, picks)

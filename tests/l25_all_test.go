@@ -67,7 +67,7 @@ func TestAllAtAnyArguments(t *testing.T) {
 		}
 	}
 	for name, answers := range told {
-		least := 5
+		least := 3
 		if of := reflect.TypeOf(allCalls[name]); of.NumOut() == 1 && of.Out(0).Kind() == reflect.Bool {
 			least = 2
 		}
