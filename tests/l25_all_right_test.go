@@ -64,7 +64,8 @@ func rightCalls(t *testing.T) map[string]some {
 	x, _, _ := impl.Parse(s.Text)
 	p, _ := impl.Compile(r, x, "a")
 	state, done := stateOf(g, 0), impl.Mean(r, x, "a", stateOf(g, 0), 100)
-	e, other := impl.Ent{At: 1}, []impl.Cell{cell(0, whole(1)), cell(1, pair(0, 1))}
+	// Cells that are not ascending, so that whoever sorts them where they stand is found.
+	e, other := impl.Ent{At: 1}, []impl.Cell{cell(2, yesNo(true)), cell(1, pair(0, 1)), cell(0, whole(1))}
 	edges := []impl.Edge{{From: 0, To: 1}, {From: 2, To: 1}, {From: 0, To: 1}}
 	circle := []impl.Edge{{From: 0, To: 1}, {From: 1, To: 2}, {From: 2, To: 0}}
 	moves := []impl.Move{{Kind: impl.MoveBegin, Task: 2}, {Kind: impl.MoveBegin, Task: 0}, {Kind: impl.MoveEnd, Task: 2}}
@@ -85,7 +86,7 @@ func rightCalls(t *testing.T) map[string]some {
 		"IsWord": {"let"}, "NameOk": {"Hp"}, "RegOk": {r}, "RegFind": {r, impl.SortComp, "Pos"}, "RegKind": {r, impl.SortRes, 1},
 		"WorldOk": {r, w}, "NewWorld": {r}, "WorldSame": {w, w}, "Where": {w, e}, "Spawn": {r, w, other}, "Kill": {r, w, e},
 		"Put": {r, w, e, 1, pair(3, 4)}, "Drop": {r, w, e, 0}, "Get": {r, w, e, 0}, "Set": {r, w, e, 0, whole(9)}, "Match": {w, []int{0}, []int{1}},
-		"CmdOk": {r, impl.Cmd{Kind: impl.CmdSpawn, List: other}}, "Merge": {r, w, [][]impl.Cmd{done.Cmds, {{Kind: impl.CmdKill, Who: e}}}},
+		"CmdOk": {r, impl.Cmd{Kind: impl.CmdSpawn, List: other}}, "Merge": {r, w, [][]impl.Cmd{done.Cmds, {{Kind: impl.CmdKill, Who: e}, {Kind: impl.CmdSpawn, List: other}}}},
 		"Targets": {done.Cmds}, "Spawns": {done.Cmds},
 		"StreamOk": {impl.KInt, g.Streams[0]}, "Send": {impl.KInt, g.Streams[0], whole(4)}, "Turn": {g.Streams[0]}, "Unread": {g.Streams[0], 1},
 		"RealOf": {"12.5"}, "Lex": {s.Text}, "Parse": {s.Text}, "TreeOk": {x}, "Print": {x}, "TreeSame": {x, x},
